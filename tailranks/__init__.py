@@ -1,0 +1,1 @@
+"""Tailranks: the order of the tails of a word."""
