@@ -1,4 +1,6 @@
-"""What words and orders both need to know of places."""
+"""What several modules need to know of places."""
+
+from tailranks.errors import NoPlace
 
 
 def is_place(value, many):
@@ -6,6 +8,12 @@ def is_place(value, many):
     if not isinstance(value, int) or isinstance(value, bool):
         return False
     return 0 <= value < many
+
+
+def check_place(value, many):
+    """Raise NoPlace for any value that is not one of so many places."""
+    if not is_place(value, many):
+        raise NoPlace(value)
 
 
 def rank_places(order):

@@ -96,3 +96,9 @@ def slow_less(word, one, other):
         one += 1
         other += 1
     return one == len(word) and other < len(word)
+
+
+def no_indexes(many):
+    """Values that are no index of so many things."""
+    beyond = (many, many + 1, many + 10 ** 30, -many, -many - 1) if many else (0, 1, -1)
+    return STRANGE + beyond + (str(many - 1), (many - 1,), [many - 1], "a", (0, 1), {"index": 0})

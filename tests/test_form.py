@@ -1,6 +1,7 @@
 """The rules of the form of the code that a short test can see."""
 
 import ast
+import builtins
 import os
 import re
 import unittest
@@ -16,6 +17,11 @@ CALLED = {
     "len", "range", "enumerate", "zip", "min", "max", "sum", "abs", "sorted", "reversed", "int",
     "str", "bool", "list", "tuple", "dict", "set", "isinstance", "ord", "repr", "any", "all",
     "divmod", "iter", "next", "super", "TypeError",
+}
+METHODS = {
+    "append", "clear", "copy", "count", "endswith", "extend", "find", "get", "index", "insert",
+    "isdigit", "items", "join", "keys", "pop", "remove", "replace", "reverse", "setdefault", "split",
+    "startswith", "strip", "update", "values",
 }
 
 
@@ -70,6 +76,46 @@ class FormTest(unittest.TestCase):
             for node in ast.walk(ast.parse(text)):
                 if isinstance(node, ast.Call) and isinstance(node.func, ast.Name):
                     self.assertIn(node.func.id, CALLED | own, name)
+
+    def test_called_methods(self):
+        """Only methods of the subset and own methods are called."""
+        own = set()
+        for name, text in sources():
+            for node in ast.walk(ast.parse(text)):
+                if isinstance(node, ast.FunctionDef):
+                    own.add(node.name)
+        for name, text in sources():
+            for node in ast.walk(ast.parse(text)):
+                if isinstance(node, ast.Call) and isinstance(node.func, ast.Attribute):
+                    self.assertIn(node.func.attr, METHODS | own | {"__init__"}, name)
+
+    def test_local_names(self):
+        """No parameter or local variable has the name of an import, of a class or of a builtin."""
+        for name, text in sources():
+            tree = ast.parse(text)
+            taken = set(dir(builtins))
+            for node in ast.walk(tree):
+                if isinstance(node, ast.ImportFrom):
+                    taken.update(alias.name for alias in node.names)
+                if isinstance(node, ast.ClassDef):
+                    taken.add(node.name)
+            for node in ast.walk(tree):
+                if isinstance(node, ast.arg):
+                    self.check_local(name, node.arg, taken)
+                if isinstance(node, ast.Name) and isinstance(node.ctx, ast.Store):
+                    self.check_local(name, node.id, taken)
+
+    def check_local(self, name, local, taken):
+        self.assertNotIn(local, taken, name)
+        self.assertFalse(local.startswith("_"), (name, local))
+
+    def test_barred_forms(self):
+        """No floats, no true division, no generator expressions and no annotations."""
+        for name, text in sources():
+            for node in ast.walk(ast.parse(text)):
+                self.assertNotIsInstance(node, (ast.Div, ast.GeneratorExp, ast.AnnAssign, ast.Global), name)
+                if isinstance(node, ast.Constant):
+                    self.assertNotIsInstance(node.value, (float, complex), name)
 
 
 if __name__ == "__main__":
