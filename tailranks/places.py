@@ -3,11 +3,14 @@
 from tailranks.errors import NoPlace
 
 
+def is_whole(value):
+    """Return whether any value is an int that is not a bool."""
+    return isinstance(value, int) and not isinstance(value, bool)
+
+
 def is_place(value, many):
     """Return whether any value is an integer from 0 to many - 1."""
-    if not isinstance(value, int) or isinstance(value, bool):
-        return False
-    return 0 <= value < many
+    return is_whole(value) and 0 <= value < many
 
 
 def check_place(value, many):

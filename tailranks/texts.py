@@ -33,14 +33,18 @@ def parse_word(text):
 def parse_order(text):
     """Return the order whose text it is."""
     words = split_text(text, "order")
-    numbers = [str(number) for number in range(100)]
     for index in range(1, len(words)):
-        if words[index] not in numbers:
+        if not is_number(words[index], 100):
             raise BadText(index)
     order = tuple([int(word) for word in words[1:]])
     if not is_order(order):
         raise BadText(0)
     return order
+
+
+def is_number(text, many):
+    """Return whether a text is that of an integer from 0 to many - 1."""
+    return text in [str(number) for number in range(many)]
 
 
 def split_text(text, name):

@@ -22,9 +22,15 @@ def word_error(value):
     return None
 
 
+def is_letter(value):
+    """Return whether any value is a letter."""
+    return is_word(value) and len(value) == 1
+
+
 def tail_order(word):
     """Return the tuple of the places in the order of their tails."""
-    tails = sorted([word[place:] for place in range(len(word))])
+    # The str makes plain that texts are sorted: desks have an order of their own.
+    tails = sorted([str(word[place:]) for place in range(len(word))])
     # No two tails have the same length, so the length of a tail tells its place.
     return tuple([len(word) - len(tail) for tail in tails])
 

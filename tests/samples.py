@@ -1,5 +1,6 @@
 """Values that several tests use."""
 
+import functools
 import itertools
 import random
 
@@ -76,6 +77,7 @@ def long_orders():
     return orders
 
 
+@functools.cache
 def slow_order(word):
     """The tail order, by counting the tails that are less than each tail."""
     order = [None] * len(word)
@@ -102,3 +104,51 @@ def no_indexes(many):
     """Values that are no index of so many things."""
     beyond = (many, many + 1, many + 10 ** 30, -many, -many - 1) if many else (0, 1, -1)
     return STRANGE + beyond + (str(many - 1), (many - 1,), [many - 1], "a", (0, 1), {"index": 0})
+
+
+def drawn_words(many, seed):
+    """So many words of 1 to 24 letters, of few and of many different letters, some with parts that repeat."""
+    source = random.Random(seed)
+    words = []
+    for at in range(many):
+        letters = ALPHABET[:source.choice((1, 2, 2, 3, 4, 26))]
+        size = source.randrange(1, 25)
+        block = "".join(source.choice(letters) for k in range(source.choice((size, size, 1, 2, 3, 4, 6))))
+        words.append((block * 24)[:size])
+    return words
+
+
+def outcome(action, /, *values, **named):
+    """What a call returns, or the error that it raises with its fields."""
+    try:
+        return ("returned", action(*values, **named))
+    except Exception as error:
+        return ("raised", type(error).__name__, tuple(vars(error).values()))
+
+
+def slow_places(word, pattern):
+    return tuple(place for place in range(len(word)) if word[place:place + len(pattern)] == pattern)
+
+
+def slow_finding(word, pattern):
+    """The finding, by looking at the tails one by one."""
+    tails = [word[place:] for place in slow_order(word)]
+    stands = [rank for rank, tail in enumerate(tails) if tail[:len(pattern)] == pattern]
+    if stands:
+        return ("places", stands[0], stands[-1] + 1)
+    return ("between", sum(tail < pattern for tail in tails))
+
+
+def slow_simple(word):
+    return all(slow_less(word, 0, place) for place in range(1, len(word)))
+
+
+@functools.cache
+def slow_factors(word):
+    """The longest simple word at the front, again and again."""
+    parts = []
+    while word:
+        end = max(end for end in range(1, len(word) + 1) if slow_simple(word[:end]))
+        parts.append(word[:end])
+        word = word[end:]
+    return tuple(parts)
