@@ -170,7 +170,7 @@ class Desk:
         self.text = self.earlier[-1]
         self.earlier = self.earlier[:-1]
         self.steps = self.steps[:-1]
-        return self.ended("undo")
+        return len(self.steps)
 
     def run(self, edits, *, on_step=None):
         """Do all edits or none of them, call on_step after each, and return the new version."""
@@ -184,7 +184,7 @@ class Desk:
         finally:
             self.busy = False
             self.text, self.earlier, self.steps, self.chosen = text, earlier, steps, chosen
-        return self.ended("run")
+        return len(self.steps)
 
     def rank_of(self, place):
         """Return the rank of a place of the current word."""
@@ -256,15 +256,11 @@ class Desk:
         # A plain desk accepts every word.
         pass
 
-    def ended(self, name):
-        """Return the version that the method of this name reached, which is then at its end."""
-        return len(self.steps)
-
     def do_alone(self, edit):
         """Do an edit that is not within a run and return the new version."""
         self.check_free()
         self.do_edit(edit)
-        return self.ended(edit[0])
+        return len(self.steps)
 
     def do_edit(self, edit):
         """Do an edit, or raise its error."""
@@ -312,7 +308,7 @@ class SimpleDesk(Desk):
 
 
 class LoggedDesk(Desk):
-    """A desk that keeps a row for each call that changed it."""
+    """A desk that keeps a row for each editing call, undo and run that raised nothing."""
 
     def __init__(self, word):
         super().__init__(word)
@@ -323,15 +319,41 @@ class LoggedDesk(Desk):
         """The tuple of the rows (name, version)."""
         return self.rows
 
+    # The desk above acts first: so a call that raises adds no row, and on_step sees none of its run.
+
+    def change(self, place, letter):
+        """Put a letter at a place, add the row and return the new version."""
+        reached = super().change(place, letter)
+        return self.noted("change", reached)
+
+    def grow(self, letter):
+        """Put a letter in front of the word, add the row and return the new version."""
+        reached = super().grow(letter)
+        return self.noted("grow", reached)
+
+    def shrink(self):
+        """Remove the first letter, add the row and return the new version."""
+        reached = super().shrink()
+        return self.noted("shrink", reached)
+
+    def undo(self):
+        """Remove the last edit in effect, add the row and return the new version."""
+        reached = super().undo()
+        return self.noted("undo", reached)
+
+    def run(self, edits, *, on_step=None):
+        """Do all edits or none of them, add one row for all and return the new version."""
+        reached = super().run(edits, on_step=on_step)
+        return self.noted("run", reached)
+
     def copy(self):
         """Return an independent desk with the same log, too."""
         twin = super().copy()
         twin.rows = self.rows
         return twin
 
-    def ended(self, name):
-        """Add a row for the method of this name and return the version that it reached."""
-        reached = super().ended(name)
+    def noted(self, name, reached):
+        """Add the row of a call of the method of this name and return the version that it reached."""
         self.rows = self.rows + ((name, reached),)
         return reached
 

@@ -1,8 +1,10 @@
 """SimpleDesk, LoggedDesk and LoggedSimpleDesk."""
 
+import inspect
 import itertools
 import unittest
 
+from tailranks.consoles import Console
 from tailranks.desks import Desk, LoggedDesk, LoggedSimpleDesk, SimpleDesk
 from tests.desk_model import FREE_KINDS, KINDS, LOGGED_KINDS, NO_LETTERS, SIMPLE_KINDS, simple_words, state
 from tests.samples import drawn_words, long_words, no_indexes, outcome, short_words, slow_order, slow_simple
@@ -228,6 +230,158 @@ class LoggedDeskTest(unittest.TestCase):
     def test_other_desks_have_no_log(self):
         for kind in (Desk, SimpleDesk):
             self.assertFalse(hasattr(kind("ab"), "log"))
+
+
+class LoggedMethodsTest(unittest.TestCase):
+    """The methods that add rows, with calls that raise between those that do not."""
+
+    NAMES = ("change", "grow", "shrink", "undo", "run")
+    # Each of them, with good values and with values that raise another error where the desk is not busy.
+    CALLS = (
+        ("change", 0, "a"), ("change", 9, "a"), ("change", 0, 5), ("grow", "a"), ("grow", 5), ("shrink",), ("undo",),
+        ("run", []), ("run", [("grow", "a")]), ("run", [("grow", 5)]), ("run", [5]), ("run", 5),
+    )
+
+    def follow(self, desk, *calls):
+        """Do the calls; each returns the version, or raises the error, with which its row here begins."""
+        rows = list(desk.log)
+        for told, name, *values in calls:
+            got = outcome(getattr(desk, name), *values)
+            if isinstance(told, tuple):
+                self.assertEqual(got, ("raised",) + told, (name, values))
+            else:
+                self.assertEqual(repr(got), repr(("returned", told)), (name, values))
+                rows.append((name, told))
+            self.assertEqual(repr(desk.log), repr(tuple(rows)), (name, values))
+
+    def test_methods_stand_in_the_body(self):
+        for name in self.NAMES:
+            self.assertIn(name, vars(LoggedDesk))
+            method = vars(LoggedDesk)[name]
+            self.assertTrue(inspect.isfunction(method), name)
+            self.assertEqual(method.__qualname__, "LoggedDesk." + name)
+            self.assertEqual(inspect.signature(method), inspect.signature(vars(Desk)[name]))
+            self.assertIs(getattr(LoggedSimpleDesk, name), method)
+
+    def test_errors_between_rows(self):
+        for kind in LOGGED_KINDS:
+            desk = kind("ab")
+            self.follow(
+                desk,
+                (("NothingToUndo", ()), "undo"), (1, "grow", "a"), (("BadLetter", (5,)), "grow", 5),
+                (("NoPlace", (9,)), "change", 9, "a"), (2, "change", 1, "b"), (("BadLetter", ("A",)), "change", 0, "A"),
+                (2, "run", []), (("BadEdits", ()), "run", 5), (("BadEdits", ()), "run", [("shrink",)] * 21),
+                (2, "run", ()), (("BadEdit", (0,)), "run", [5]), (("BadEdit", (1,)), "run", [("grow", "a"), ("undo",)]),
+                (("Rejected", (1,)), "run", [("grow", "a"), ("grow", 5)]), (4, "run", [("grow", "a"), ("shrink",)]),
+                (3, "undo"), (("Rejected", (0,)), "run", [("change", None, "a")]), (4, "shrink"), (3, "undo"), (2, "undo"),
+                (1, "undo"), (0, "undo"), (("NothingToUndo", ()), "undo"), (1, "shrink"), (("LastLetter", ()), "shrink"),
+                (("Rejected", (0,)), "run", [("shrink",)]), (2, "run", [("grow", "a")]), (3, "change", 1, "c"),
+            )
+            self.assertEqual((desk.word, desk.version, len(desk.log)), ("ac", 3, 14))
+
+    def test_long_words(self):
+        for kind in LOGGED_KINDS:
+            desk = kind("a" * 23 + "b")
+            self.follow(
+                desk,
+                (("TooLong", (24,)), "grow", "a"), (1, "change", 23, "c"), (("TooLong", (24,)), "grow", "a"),
+                (("Rejected", (0,)), "run", [("grow", "a")]), (2, "shrink"), (("BadLetter", ("",)), "grow", ""), (3, "grow", "a"),
+            )
+
+    def test_sixty_edits(self):
+        full = ("TooManyEdits", ())
+        same = ("change", 0, "a")
+        for kind in LOGGED_KINDS:
+            desk = kind("ab")
+            for version in (20, 40, 60):
+                self.follow(desk, (version, "run", [same] * 20), (version, "run", []))
+            self.follow(
+                desk,
+                (full,) + same, (full, "grow", "a"), (full, "shrink"), (("Rejected", (0,)), "run", [same]), (60, "run", []),
+                (59, "undo"), (("Rejected", (1,)), "run", [same] * 2), (60,) + same, (full,) + same, (59, "undo"),
+                (60, "run", [same]),
+            )
+
+    def test_words_that_are_not_simple(self):
+        desk = LoggedSimpleDesk("aab")
+        self.follow(
+            desk,
+            (("NotSimple", (1,)), "grow", "b"), (("NotSimple", (1,)), "change", 0, "c"), (1, "shrink"), (0, "undo"),
+            (("Rejected", (1,)), "run", [("grow", "a"), ("grow", "c")]), (1, "grow", "a"), (("NotSimple", (1,)), "grow", "c"),
+            (2, "run", [("change", 3, "c")]), (("NotSimple", (3,)), "change", 3, "a"), (1, "undo"), (2, "change", 2, "b"),
+            (3, "shrink"), (("NotSimple", (1,)), "shrink"), (("Rejected", (0,)), "run", [("shrink",)]), (3, "run", []),
+        )
+        self.assertEqual(desk.word, "abb")
+        desk = LoggedDesk("aab")
+        self.follow(
+            desk,
+            (1, "grow", "b"), (2, "change", 0, "c"), (4, "run", [("grow", "a"), ("grow", "c")]), (3, "undo"), (4, "shrink"),
+        )
+        self.assertEqual(desk.word, "caab")
+
+    def test_busy(self):
+        for kind in LOGGED_KINDS:
+            desk = kind("ab")
+            desk.grow("a")
+            logs = []
+
+            def on_step(passed):
+                for name, *values in self.CALLS:
+                    self.assertEqual(outcome(getattr(passed, name), *values), ("raised", "Busy", ()))
+                    logs.append(passed.log)
+
+            self.assertEqual(desk.run([("grow", "a"), ("change", 0, "a")], on_step=on_step), 3)
+            self.assertEqual(logs, [(("grow", 1),)] * (2 * len(self.CALLS)))
+            self.assertEqual(desk.log, (("grow", 1), ("run", 3)))
+            self.follow(desk, (2, "undo"), (3, "grow", "a"), (3, "run", []))
+
+    def test_busy_that_is_not_caught(self):
+        for kind in LOGGED_KINDS:
+            desk = kind("ab")
+            for name, *values in self.CALLS:
+                rows = desk.log
+                action = getattr(desk, name)
+                told = outcome(desk.run, [("grow", "a")], on_step=lambda passed: action(*values))
+                self.assertEqual((told, desk.log), (("raised", "Busy", ()), rows))
+                self.follow(desk, (0, "run", []))
+
+    def test_edits_of_a_run_that_on_step_stops(self):
+        for kind in LOGGED_KINDS:
+            desk = kind("ab")
+            logs = []
+
+            def on_step(passed):
+                logs.append(passed.log)
+                if len(logs) in (2, 3):
+                    raise KeyError(len(logs))
+
+            edits = [("grow", "a"), ("change", 0, "a"), ("shrink",)]
+            self.follow(desk, (1, "grow", "a"))
+            for again in range(2):
+                self.assertRaises(KeyError, desk.run, edits, on_step=on_step)
+                self.assertEqual((desk.log, desk.version), ((("grow", 1),), 1))
+            self.assertEqual(desk.run(edits, on_step=on_step), 4)
+            self.assertEqual(logs, [(("grow", 1),)] * 6)
+            self.assertEqual(desk.log, (("grow", 1), ("run", 4)))
+
+    def test_two_logged_desks(self):
+        for kind in LOGGED_KINDS:
+            desk, other = kind("ab"), kind("ab")
+            desk.run([("grow", "a")] * 2, on_step=lambda passed: [other.grow("a"), outcome(other.grow, 5), other.undo()])
+            self.assertEqual(desk.log, (("run", 2),))
+            self.assertEqual(other.log, (("grow", 1), ("undo", 0)) * 2)
+
+    def test_console(self):
+        for kind in LOGGED_KINDS:
+            desk = kind("ab")
+            console = Console(desk)
+            lines = (
+                "undo", "grow a", "grow A", "look a", "change 2 c", "change 9 a", "change 0 5", "shrink", "shrink 1", "run",
+                "word", "undo", "log", 5, "found",
+            )
+            for line in lines:
+                console.execute(line)
+            self.assertEqual(desk.log, (("grow", 1), ("change", 2), ("shrink", 3), ("undo", 2)))
 
 
 class LoggedSimpleDeskTest(unittest.TestCase):

@@ -227,6 +227,23 @@ class ClassesTest(unittest.TestCase):
             if is_call(node, {"super"}):
                 self.assertEqual((node.args, node.keywords), ([], []))
 
+    def test_super_calls_methods(self):
+        """Each super() calls a method that is not static or of the class, in such a method itself."""
+        barred = {"staticmethod", "classmethod", "property", "setter"}
+        plain = {node.name for name, node in nodes(ast.FunctionDef) if not barred & set(decorators(node))}
+        called = [item.func for name, item in nodes(ast.Call) if isinstance(item.func, ast.Attribute)]
+        called = [item.attr for item in called if is_call(item.value, {"super"})]
+        self.assertEqual(len(called), len([item for name, item in nodes(ast.Call) if is_call(item, {"super"})]))
+        self.assertEqual([item for item in called if item not in plain or (item in DOUBLE and item != "__init__")], [])
+        for name, node in nodes(ast.FunctionDef):
+            if [item for item in ast.walk(node) if is_call(item, {"super"})]:
+                self.assertFalse({"staticmethod", "classmethod"} & set(decorators(node)), node.name)
+                self.assertEqual([item for item in ast.walk(node) if isinstance(item, (ast.Lambda, ast.ListComp))], [], name)
+
+    def test_methods_of_a_logged_desk_stand_in_its_body(self):
+        body = {item.name for item in own_classes()["LoggedDesk"].body if isinstance(item, ast.FunctionDef)}
+        self.assertLessEqual({"change", "grow", "shrink", "undo", "run"}, body)
+
 
 class CallsTest(unittest.TestCase):
     def test_sorted_numbers_and_texts(self):

@@ -64,7 +64,10 @@ METHODS = {
         "walk(self)", "copy(self)", "__call__(self, pattern)",
     ),
     SimpleDesk: ("__init__(self, word)",),
-    LoggedDesk: ("__init__(self, word)",),
+    LoggedDesk: (
+        "__init__(self, word)", "change(self, place, letter)", "grow(self, letter)", "shrink(self)", "undo(self)",
+        "run(self, edits, *, on_step=None)", "copy(self)",
+    ),
     LoggedSimpleDesk: ("__init__(self, word)",),
     consoles.Console: ("__init__(self, desk)", "execute(self, line)"),
 }
